@@ -1,0 +1,1 @@
+"""Holes drilled: rounds of a drilling machine with one head."""
