@@ -120,6 +120,13 @@ class HolesInThePanel(unittest.TestCase):
             # Two holes are 480 of the panel, three would be 720.
             self.assertEqual([add_hole(board, x, 0, 1) for x in (1, 2, 3)], [0, 1, -4])
 
+    def test_one_beyond_512(self):
+        board = Board()
+        board.columns = 9
+        board.rows = 3
+        # 19 holes would be 513 of the panel.
+        self.assertEqual([add_hole(board, x, 0, 1) for x in range(19)], [*range(18), -4])
+
     def test_it_is_told_last(self):
         board = Board()
         for x in range(48):
@@ -131,9 +138,11 @@ class HolesInThePanel(unittest.TestCase):
 
     def test_a_new_board_has_a_new_panel(self):
         board = Board()
+        self.assertEqual((board.columns, board.rows), (1, 1))
         board.columns = 16
         board.rows = 16
         board.renew(9, 9, 0)
+        self.assertEqual((board.columns, board.rows), (1, 1))
         self.assertEqual([add_hole(board, x, 0, 1) for x in (1, 2, 3)], [0, 1, 2])
 
 
