@@ -1,1 +1,1 @@
-"""Holes drilled: rounds of a drilling machine with one head."""
+"""Holes drilled: rounds, panels, programs of the drilling machine."""

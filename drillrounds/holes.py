@@ -1,4 +1,4 @@
-"""The holes of a board: put in, taken away, counted."""
+"""The holes of a board: put in, taken away, loaded, counted."""
 
 OUT_OF_RANGE = -1
 POINT_TAKEN = -2
@@ -23,8 +23,8 @@ def is_point_taken(holes, x, y):
     return False
 
 
-def is_panel_too_full(board, hole_count):
-    return hole_count * board.columns * board.rows > MOST_IN_PANEL
+def is_panel_too_full(hole_count, columns, rows):
+    return hole_count * columns * rows > MOST_IN_PANEL
 
 
 def add_hole(board, x, y, diameter):
@@ -36,11 +36,38 @@ def add_hole(board, x, y, diameter):
         return POINT_TAKEN
     if number >= MOST_HOLES:
         return TOO_MANY_HOLES
-    if is_panel_too_full(board, number + 1):
+    if is_panel_too_full(number + 1, board.columns, board.rows):
         return TOO_MANY_IN_PANEL
     board.holes.append((x, y, diameter))
     board.order.append(number)
     return number
+
+
+def are_all_on_board(board, holes):
+    return all([is_on_board(board, hole[0], hole[1], hole[2]) for hole in holes])
+
+
+def have_unlike_points(holes):
+    return len(set([(hole[0], hole[1]) for hole in holes])) == len(holes)
+
+
+def load_holes(board, holes):
+    """How many holes the board has then, or the first refusal that is due.
+
+    Each refusal is looked for in all holes before the next one is, and nothing
+    is changed before the last one.
+    """
+    if not are_all_on_board(board, holes):
+        return OUT_OF_RANGE
+    if not have_unlike_points(holes):
+        return POINT_TAKEN
+    if len(holes) > MOST_HOLES:
+        return TOO_MANY_HOLES
+    if is_panel_too_full(len(holes), board.columns, board.rows):
+        return TOO_MANY_IN_PANEL
+    board.holes = list(holes)
+    board.order = list(range(len(holes)))
+    return len(holes)
 
 
 def order_without(order, dropped):
@@ -69,3 +96,17 @@ def diameters(holes):
 
 def numbers_of_diameter(holes, diameter):
     return [number for number, hole in enumerate(holes) if hole[2] == diameter]
+
+
+def count_left(holes, taken):
+    """How many of the holes are left when each one taken takes away just one like it."""
+    taking = {}
+    for hole in taken:
+        taking[hole] = taking.get(hole, 0) + 1
+    left = 0
+    for hole in holes:
+        if taking.get(hole, 0) > 0:
+            taking[hole] -= 1
+        else:
+            left += 1
+    return left

@@ -22,8 +22,14 @@ class Board:
         self.change_cost = change_cost
         self.holes = []
         self.order = []
-        self.columns = 1
-        self.rows = 1
+        self.set_panel(1, 1, width + 1, height + 1, 0)
+
+    def set_panel(self, columns, rows, px, py, alt):
+        self.columns = columns
+        self.rows = rows
+        self.px = px
+        self.py = py
+        self.alt = alt
 
 
 def renew_board(board, width, height, change_cost):

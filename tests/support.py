@@ -1,10 +1,14 @@
 """What the tests share: a way to ask calls, and a slow program to compare with."""
 
+import collections
 import itertools
+import re
+import sys
 
 from drillrounds.board import answers
 
-BOARD, HOLE, DROP, HOLES, TOOLS, ORDER, SET, LENGTH, NEAREST, GROUPED, IMPROVE, BEST = range(12)
+(BOARD, HOLE, DROP, HOLES, TOOLS, ORDER, SET, LENGTH, NEAREST, GROUPED, IMPROVE, BEST,
+ TREE, WALK, PANEL, PANELHOLES, FIND, FIT, PROGRAM, PANELPROGRAM, RUN, CHECK, LOAD) = range(23)
 
 FAR = 10 ** 18
 
@@ -51,6 +55,48 @@ def on_a_line(*xs):
     return drilled(*[(x, 0, 1) for x in xs])
 
 
+def text_call(number, text):
+    """A call with a text: a str of signs 0 to 255, or a list of lines."""
+    if not isinstance(text, str):
+        text = "".join(line + "\n" for line in text)
+    data = text.encode("latin-1")
+    return [number, len(data), *data]
+
+
+def run_of(text):
+    return text_call(RUN, text)
+
+
+def check_of(text):
+    return text_call(CHECK, text)
+
+
+def load_of(text):
+    return text_call(LOAD, text)
+
+
+def written(answer):
+    """The lines of a program that was answered with the count of its bytes."""
+    if answer[0] != len(answer) - 1 or answer[-1] != 10:
+        raise AssertionError(f"no program: {answer}")
+    return bytes(answer[1:-1]).decode("ascii").split("\n")
+
+
+def flat(holes):
+    """The answer that tells these (x, y, d)."""
+    return [len(holes), *joined(holes)]
+
+
+def call_depth():
+    """How many calls there are within one another now."""
+    depth = 0
+    frame = sys._getframe()
+    while frame is not None:
+        depth += 1
+        frame = frame.f_back
+    return depth
+
+
 SEEN = ([HOLES], [TOOLS], [ORDER], [LENGTH])
 
 
@@ -64,6 +110,7 @@ class Plain:
         self.w, self.h, self.c = w, h, c
         self.holes = []
         self.kept = []
+        self.sheet = (1, 1, w + 1, h + 1, 0)
 
     def way(self, a, b):
         return max(abs(a[0] - b[0]), abs(a[1] - b[1]))
@@ -91,6 +138,8 @@ class Plain:
             return [-2]
         if len(self.holes) == 48:
             return [-3]
+        if (len(self.holes) + 1) * self.sheet[0] * self.sheet[1] > 512:
+            return [-4]
         self.holes.append((x, y, d))
         self.kept.append(len(self.holes) - 1)
         return [len(self.holes) - 1]
@@ -175,18 +224,246 @@ class Plain:
         order = min(itertools.permutations(range(len(self.holes))), key=self.length_of)
         return [self.length_of(order), *order]
 
+    def joins(self):
+        """{hole: (way, parent)}, in the order in which the holes are put in."""
+        inside = {}
+        points = [(0, 0), *self.holes]
+        while len(inside) < len(self.holes):
+            outside = [k for k in range(len(self.holes)) if k not in inside]
+            ways = [(self.way(self.holes[k], points[p]), k, p) for k in outside
+                    for p in [0, *[k + 1 for k in inside]]]
+            way, hole, parent = min(ways)
+            inside[hole] = (way, parent)
+        return inside
+
+    def tree(self):
+        joins = self.joins()
+        return [sum(way for way, parent in joins.values()), *[joins[k][1] for k in range(len(joins))]]
+
+    def behind(self, joins, parent):
+        for k in range(len(joins)):
+            if joins[k][1] == parent:
+                yield k
+                yield from self.behind(joins, k + 1)
+
+    def walk(self):
+        self.kept = list(self.behind(self.joins(), 0))
+        return [self.length_of(self.kept)]
+
+    def panel(self, columns, rows, px, py, alt):
+        if columns not in range(1, 17) or rows not in range(1, 17) or alt not in (0, 1):
+            return [-1]
+        if px not in range(self.w + 1, 10 ** 9 + 1) or py not in range(self.h + 1, 10 ** 9 + 1):
+            return [-1]
+        if columns * px > 10 ** 9 or rows * py > 10 ** 9:
+            return [-2]
+        if len(self.holes) * columns * rows > 512:
+            return [-4]
+        self.sheet = (columns, rows, px, py, alt)
+        return [0]
+
+    def sheet_holes(self):
+        """((x, y, d), column, row, number) of each hole of the panel."""
+        columns, rows, px, py, alt = self.sheet
+        for j, i, (number, (x, y, d)) in itertools.product(range(rows), range(columns), enumerate(self.holes)):
+            if alt == 1 and (i + j) % 2 == 1:
+                x, y = self.w - x, self.h - y
+            yield (x + i * px, y + j * py, d), i, j, number
+
+    def find(self, x, y):
+        for hole, i, j, number in self.sheet_holes():
+            if hole[:2] == (x, y):
+                return [1, i, j, number]
+        return [0]
+
+    def fit(self, pw, ph, g):
+        big = range(1, 10 ** 9 + 1)
+        if pw not in big or ph not in big or g not in range(10 ** 9 + 1):
+            return [-1]
+
+        def along(length, side):
+            return 0 if length < side else (length - side) // (side + g) + 1
+
+        if along(ph, self.h) > 1000:
+            return [-2]
+        fits = []
+        for k in range(along(ph, self.h) + 1):
+            r = along(ph - k * (self.h + g), self.w)
+            fits.append((k * along(pw, self.w) + r * along(pw, self.h), -k, r))
+        boards, k, r = max(fits)
+        return [boards, -k, along(pw, self.w), r, along(pw, self.h)]
+
+    def program(self):
+        if not self.kept:
+            return spelled(["tool 1"])
+        left = [self.holes[k] for k in self.kept]
+        x, y, d = left.pop(0)
+        lines = [f"tool {d}", f"at {x} {y}"]
+        while left:
+            dx, dy = left[0][0] - x, left[0][1] - y
+            if left[0][2] != d:
+                d = left[0][2]
+                lines.append(f"tool {d}")
+            k = 0
+            while left and left[0] == (x + dx, y + dy, d) and k < 1000:
+                x, y, d = left.pop(0)
+                k += 1
+            lines.append(f"run {k} {dx} {dy}" if k > 1 else f"by {dx} {dy}")
+        return spelled(lines)
+
+    def panelprogram(self):
+        columns, rows, px, py, alt = self.sheet
+        if alt == 1:
+            return [-2]
+        lines = []
+        for d in sorted({hole[2] for hole in self.holes}):
+            points = [self.holes[k][:2] for k in self.kept if self.holes[k][2] == d]
+            (x, y), (xn, yn) = points[0], points[-1]
+            lines += [f"tool {d}", f"to {x} {y}", f"rep {rows}", f"rep {columns}", "here"]
+            lines += [f"by {b[0] - a[0]} {b[1] - a[1]}" for a, b in zip(points, points[1:])]
+            lines += [f"go {x - xn + px} {y - yn}", "end", f"go {-columns * px} {py}", "end"]
+        return spelled(lines or ["tool 1"])
+
+    def run(self, text):
+        try:
+            return flat(plain_drilled(text))
+        except PlainRefusal as refusal:
+            return [refusal.number]
+
+    def check(self, text):
+        try:
+            drilled_holes = collections.Counter(plain_drilled(text))
+        except PlainRefusal as refusal:
+            return [refusal.number]
+        wanted = collections.Counter(found[0] for found in self.sheet_holes())
+        return [(wanted - drilled_holes).total(), (drilled_holes - wanted).total()]
+
+    def load(self, text):
+        try:
+            holes = plain_drilled(text)
+        except PlainRefusal as refusal:
+            return [refusal.number]
+        if any(x not in range(self.w + 1) or y not in range(self.h + 1) for x, y, d in holes):
+            return [-1]
+        if any(one[:2] == other[:2] for one, other in itertools.combinations(holes, 2)):
+            return [-2]
+        if len(holes) > 48:
+            return [-3]
+        if len(holes) * self.sheet[0] * self.sheet[1] > 512:
+            return [-4]
+        self.holes = holes
+        self.kept = list(range(len(holes)))
+        return [len(holes)]
+
     def answer(self, call):
         number, rest = call[0], call[1:]
-        if number == SET:
-            return self.set_order(rest[1:])
+        if number in (SET, RUN, CHECK, LOAD):
+            rest = [rest[1:]]
         if number == HOLES:
-            return [len(self.holes), *joined(self.holes)]
+            return flat(self.holes)
+        if number == PANELHOLES:
+            return flat([found[0] for found in self.sheet_holes()])
         if number == ORDER:
             return [len(self.kept), *self.kept]
-        named = {BOARD: self.board, HOLE: self.hole, DROP: self.drop, TOOLS: self.tools,
+        named = {BOARD: self.board, HOLE: self.hole, DROP: self.drop, TOOLS: self.tools, SET: self.set_order,
                  LENGTH: self.length, NEAREST: self.nearest, GROUPED: self.grouped,
-                 IMPROVE: self.improve, BEST: self.best}
+                 IMPROVE: self.improve, BEST: self.best, TREE: self.tree, WALK: self.walk, PANEL: self.panel,
+                 FIND: self.find, FIT: self.fit, PROGRAM: self.program, PANELPROGRAM: self.panelprogram,
+                 RUN: self.run, CHECK: self.check, LOAD: self.load}
         return named[number](*rest)
+
+
+def spelled(lines):
+    data = "".join(line + "\n" for line in lines).encode("ascii")
+    return [len(data), *data]
+
+
+class PlainRefusal(Exception):
+    def __init__(self, number):
+        super().__init__(number)
+        self.number = number
+
+
+NUMBER = rb"(0|-?[1-9][0-9]{0,9})"
+KINDS = {b"tool": ["d"], b"to": "xy", b"go": "xy", b"at": "xy", b"by": "xy", b"here": "", b"run": "nxy",
+         b"rep": "m", b"end": ""}
+LIMITS = {"d": (1, 10 ** 7), "x": (-2 * 10 ** 9, 2 * 10 ** 9), "y": (-2 * 10 ** 9, 2 * 10 ** 9),
+          "n": (1, 1000), "m": (0, 1000)}
+
+
+def plain_line(line):
+    """The word and its numbers; None if it is passed over; a ValueError if it is wrong in itself."""
+    if not re.fullmatch(rb"[ -~]*", line):
+        raise ValueError
+    if re.fullmatch(rb" *(#.*)?", line):
+        return None
+    word, *rest = line.split()
+    if word not in KINDS or len(rest) != len(KINDS[word]):
+        raise ValueError
+    for given, kind in zip(rest, KINDS[word]):
+        if not re.fullmatch(NUMBER, given) or not LIMITS[kind][0] <= int(given) <= LIMITS[kind][1]:
+            raise ValueError
+    return word.decode(), *map(int, rest)
+
+
+def plain_blocks(text):
+    """The program as a list in which a loop is ("rep", N, list)."""
+    data = bytes(text)
+    lines = data.split(b"\n") if data else []
+    if data.endswith(b"\n"):
+        lines.pop()
+    blocks = [[]]
+    for at, line in enumerate(lines, 1):
+        try:
+            told = plain_line(line)
+        except ValueError:
+            raise PlainRefusal(-100 - at)
+        if told is None:
+            continue
+        no_tool = blocks == [[]] and told[0] != "tool"
+        if no_tool or (told[0] == "rep" and len(blocks) == 9) or (told[0] == "end" and len(blocks) == 1):
+            raise PlainRefusal(-100 - at)
+        if told[0] == "end":
+            blocks.pop()
+            continue
+        if told[0] == "rep":
+            told = (*told, [])
+        blocks[-1].append(told)
+        if told[0] == "rep":
+            blocks.append(told[2])
+    if len(blocks) > 1 or not blocks[0]:
+        raise PlainRefusal(-100 - len(lines) - 1)
+    return blocks[0]
+
+
+def plain_steps(block):
+    """The lines in the order in which they are done."""
+    for told in block:
+        yield told
+        if told[0] == "rep":
+            for _ in range(told[1]):
+                yield from plain_steps(told[2])
+                yield ("end",)
+
+
+def plain_drilled(text):
+    x = y = d = done = 0
+    holes = []
+    for word, *given in plain_steps(plain_blocks(text)):
+        done += 1
+        times = given.pop(0) if word == "run" else 1
+        for _ in range(times):
+            if word == "tool":
+                d = given[0]
+            elif word in ("to", "at"):
+                x, y = given
+            elif word in ("go", "by", "run"):
+                x, y = x + given[0], y + given[1]
+            if word in ("here", "at", "by", "run"):
+                holes.append((x, y, d))
+        if done > 8192 or len(holes) > 2048:
+            raise PlainRefusal(-6)
+    return holes
 
 
 def plain_answers(calls):

@@ -2,8 +2,6 @@
 
 import unittest
 
-from drillrounds.holes import add_hole
-from drillrounds.state import Board
 from support import (BEST, BOARD, DROP, FAR, HOLE, HOLES, IMPROVE, LENGTH, NEAREST, ORDER, SEEN, TOOLS,
                      ask, ask_last, drilled, on_a_line, set_to)
 
@@ -99,51 +97,6 @@ class HoleCall(unittest.TestCase):
     def test_a_48th_again_after_a_drop(self):
         full = on_a_line(*range(1, 49))
         self.assertEqual(ask(*full, [DROP, 0], [HOLE, 1, 0, 9], [HOLE, 0, 0, 9])[48:], [[47], [47], [-3]])
-
-
-class HolesInThePanel(unittest.TestCase):
-    """No call of these makes a panel yet, so the board is handed one here."""
-
-    def test_at_most_512(self):
-        board = Board()
-        board.columns = 16
-        board.rows = 16
-        self.assertEqual([add_hole(board, x, 0, 1) for x in (1, 2, 3)], [0, 1, -4])
-        self.assertEqual(board.holes, [(1, 0, 1), (2, 0, 1)])
-        self.assertEqual(board.order, [0, 1])
-
-    def test_columns_and_rows_both_count(self):
-        for columns, rows in ((16, 15), (15, 16)):
-            board = Board()
-            board.columns = columns
-            board.rows = rows
-            # Two holes are 480 of the panel, three would be 720.
-            self.assertEqual([add_hole(board, x, 0, 1) for x in (1, 2, 3)], [0, 1, -4])
-
-    def test_one_beyond_512(self):
-        board = Board()
-        board.columns = 9
-        board.rows = 3
-        # 19 holes would be 513 of the panel.
-        self.assertEqual([add_hole(board, x, 0, 1) for x in range(19)], [*range(18), -4])
-
-    def test_it_is_told_last(self):
-        board = Board()
-        for x in range(48):
-            add_hole(board, x, 0, 1)
-        board.columns = 11
-        self.assertEqual(add_hole(board, 0, 0, 0), -1)
-        self.assertEqual(add_hole(board, 0, 0, 1), -2)
-        self.assertEqual(add_hole(board, 0, 1, 1), -3)
-
-    def test_a_new_board_has_a_new_panel(self):
-        board = Board()
-        self.assertEqual((board.columns, board.rows), (1, 1))
-        board.columns = 16
-        board.rows = 16
-        board.renew(9, 9, 0)
-        self.assertEqual((board.columns, board.rows), (1, 1))
-        self.assertEqual([add_hole(board, x, 0, 1) for x in (1, 2, 3)], [0, 1, 2])
 
 
 class DropCall(unittest.TestCase):
