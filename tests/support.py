@@ -87,14 +87,20 @@ def flat(holes):
     return [len(holes), *joined(holes)]
 
 
-def call_depth():
-    """How many calls there are within one another now."""
+def answers_within(calls, further):
+    """What is answered when Python allows that many further calls within one another."""
     depth = 0
     frame = sys._getframe()
     while frame is not None:
         depth += 1
         frame = frame.f_back
-    return depth
+    limit = sys.getrecursionlimit()
+    # The frames of the test runner itself stand below, so the limit is set from here.
+    sys.setrecursionlimit(depth + further)
+    try:
+        return answers(calls)
+    finally:
+        sys.setrecursionlimit(limit)
 
 
 SEEN = ([HOLES], [TOOLS], [ORDER], [LENGTH])

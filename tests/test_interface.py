@@ -2,13 +2,12 @@
 
 import contextlib
 import io
-import sys
 import unittest
 
 from drillrounds.board import answers
 from support import (BEST, BOARD, DROP, FAR, FIND, FIT, GROUPED, HOLE, HOLES, IMPROVE, LENGTH, NEAREST, ORDER, PANEL,
-                     PANELHOLES, PANELPROGRAM, PROGRAM, TOOLS, TREE, WALK, ask, call_depth, check_of, joined, load_of,
-                     on_a_line, plain_answers, run_of, set_to, spelled)
+                     PANELHOLES, PANELPROGRAM, PROGRAM, TOOLS, TREE, WALK, answers_within, ask, check_of, joined,
+                     load_of, on_a_line, plain_answers, run_of, set_to, spelled)
 
 # Worked out by hand, call by call.
 TOLD = (
@@ -241,17 +240,10 @@ class Long(unittest.TestCase):
         self.assertEqual(ask(load_of(text), check_of("tool 1\nhere")), [[1], [0, 0]])
 
     def test_long_lists_need_no_deep_calls(self):
-        # The frames of the test runner itself stand below, so the limit is set from here.
-        depth = call_depth()
         calls = joined([*on_a_line(*range(1, 49)), *[set_to(*range(100))] * 147, [NEAREST], [GROUPED],
                         set_to(*range(48)), [IMPROVE, 100], [HOLES]])
         self.assertLessEqual(len(calls), 17000)
-        limit = sys.getrecursionlimit()
-        sys.setrecursionlimit(depth + 40)
-        try:
-            answered = answers(calls)
-        finally:
-            sys.setrecursionlimit(limit)
+        answered = answers_within(calls, 40)
         self.assertEqual(answered[96:96 + 294], [1, -1] * 147)
         self.assertEqual(answered[390:399], [1, 96, 1, 96, 1, 96, 2, 0, 96])
 

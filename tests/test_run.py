@@ -1,10 +1,8 @@
 """run: call 20."""
 
-import sys
 import unittest
 
-from drillrounds.board import answers
-from support import (BOARD, PANEL, PANELHOLES, SEEN, ask, ask_last, call_depth, check_of, drilled, flat, load_of,
+from support import (BOARD, PANEL, PANELHOLES, SEEN, answers_within, ask, ask_last, check_of, drilled, flat, load_of,
                      run_of, set_to)
 
 HERE = (0, 0, 1)
@@ -225,17 +223,9 @@ class LongTexts(Running):
         self.drills("tool 1\nrep 0\n" + "here\n" * 3300 + "end\nhere\n", HERE)
 
     def test_no_deep_calls(self):
-        texts = ("tool 1\n" + "here\n" * 2048, "tool 1\n" + "rep 1\nend\n" * 1600,
-                 "tool 1\n" + "rep 2\n" * 8 + "here\n" + "end\n" * 8, "\n" * 16890)
-        for text in texts:
-            call = run_of(text)
-            limit = sys.getrecursionlimit()
-            sys.setrecursionlimit(call_depth() + 30)
-            try:
-                answered = answers(call)
-            finally:
-                sys.setrecursionlimit(limit)
-            self.assertEqual(answered[1], {0: 2048, 1: 0, 2: 256, 3: -16991}[texts.index(text)])
+        for text, told in (("tool 1\n" + "here\n" * 2048, 2048), ("tool 1\n" + "rep 1\nend\n" * 1600, 0),
+                           ("tool 1\n" + "rep 2\n" * 8 + "here\n" + "end\n" * 8, 256), ("\n" * 16890, -16991)):
+            self.assertEqual(answers_within(run_of(text), 30)[1], told)
 
 
 if __name__ == "__main__":

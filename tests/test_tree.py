@@ -1,10 +1,8 @@
 """tree and walk: calls 12 and 13."""
 
-import sys
 import unittest
 
-from drillrounds.board import answers
-from support import (BOARD, DROP, HOLE, LENGTH, NEAREST, ORDER, SEEN, TREE, WALK, ask, ask_last, call_depth, drilled,
+from support import (BOARD, DROP, HOLE, LENGTH, NEAREST, ORDER, SEEN, TREE, WALK, answers_within, ask, ask_last, drilled,
                      joined, load_of, on_a_line, set_to)
 
 # From home (4, 0) is put in, 4 away; then (7, 3), 3 from it; then (10, 0), 3
@@ -139,13 +137,7 @@ class WalkCall(unittest.TestCase):
 
     def test_a_chain_needs_no_deep_calls(self):
         calls = joined([*on_a_line(*range(1, 49)), [TREE], [WALK]])
-        limit = sys.getrecursionlimit()
-        sys.setrecursionlimit(call_depth() + 30)
-        try:
-            answered = answers(calls)
-        finally:
-            sys.setrecursionlimit(limit)
-        self.assertEqual(answered[96:], [49, 48, *range(48), 1, 96])
+        self.assertEqual(answers_within(calls, 30)[96:], [49, 48, *range(48), 1, 96])
 
 
 if __name__ == "__main__":
