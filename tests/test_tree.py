@@ -2,8 +2,8 @@
 
 import unittest
 
-from support import (BOARD, DROP, HOLE, LENGTH, NEAREST, ORDER, SEEN, TREE, WALK, answers_within, ask, ask_last, drilled,
-                     joined, load_of, on_a_line, set_to)
+from support import (BOARD, DROP, HOLE, LENGTH, NEAREST, ORDER, SEEN, TREE, WALK, answers_within, ask, ask_last,
+                     drilled, joined, load_of, on_a_line, set_to)
 
 # From home (4, 0) is put in, 4 away; then (7, 3), 3 from it; then (10, 0), 3
 # from (7, 3) and 6 from (4, 0); then (20, 0), 10 from (10, 0).
